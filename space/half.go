@@ -2,16 +2,16 @@ package space
 
 import "trunnel/api"
 
-// half is the set of the points whose scalar product with n, which is not 0, is at most d. Its numbers are of any size.
-type half struct {
-	n vector
-	d number
+// Half is the set of the points whose scalar product with N, which is not 0, is at most D. Its numbers are of any size.
+type Half struct {
+	N Vector
+	D Number
 }
 
-// readHalf returns the half-space of api's form, and the error of CheckHalf.
-func readHalf(h api.Half) (half, api.Errno) {
-	d, errD := read(h.D)
-	return half{integers(h.N), d}, first(checkNormal(h.N), errD)
+// ReadHalf returns the half-space of api's form, and the error of CheckHalf.
+func ReadHalf(h api.Half) (Half, api.Errno) {
+	d, errD := ReadNumber(h.D)
+	return Half{Integers(h.N), d}, first(checkNormal(h.N), errD)
 }
 
 // checkNormal returns the first error of a normal, or OK.
@@ -32,150 +32,163 @@ func checkNormal(n [3]int) api.Errno {
 	return api.OK
 }
 
-// write returns the one form of a half-space, or ErrLarge.
-func (h half) write() (api.Half, api.Errno) {
-	factor := h.n.whole()
-	d, e := h.d.times(factor).write()
+// Write returns the one form of a half-space, or ErrLarge.
+func (h Half) Write() (api.Half, api.Errno) {
+	factor := h.N.whole()
+	d, e := h.D.Times(factor).Write()
 	if e != api.OK {
 		return api.Half{}, e
 	}
 	var n [3]int
-	for i, x := range h.n.scaled(factor) {
-		if x.num.compare(naturalOf(api.MaxNumber)) > 0 {
+	for i, x := range h.N.Scaled(factor) {
+		if x.large != nil || magnitude(x.num) > api.MaxNumber {
 			return api.Half{}, api.ErrLarge
 		}
-		n[i] = x.sign() * int(x.num.low())
+		n[i] = int(x.num)
 	}
 	return api.Half{N: n, D: d}, api.OK
 }
 
 // whole returns the number above 0 that makes the coordinates of a, which is not 0, integers without a common divisor above 1.
-func (a vector) whole() number {
+func (a Vector) whole() Number {
 	var nums natural
 	dens := naturalOf(1)
-	for _, x := range a {
-		if x.isZero() {
+	for _, coordinate := range a {
+		if coordinate.IsZero() {
 			continue
 		}
+		x := coordinate.fraction()
 		nums = gcd(x.num, nums)
 		more, _ := x.den.divide(gcd(x.den, dens))
 		dens = dens.times(more)
 	}
-	return ratio(false, dens, nums)
+	return ratio(false, dens, nums).number()
 }
 
-// excess returns by how much the scalar product of n and p is above d.
-func (h half) excess(p vector) number { return h.n.dot(p).minus(h.d) }
+// Opposite returns the other side of the same plane.
+func (h Half) Opposite() Half { return Half{h.N.Negated(), h.D.Negated()} }
+
+// Excess returns by how much the scalar product of N and p is above D.
+func (h Half) Excess(p Vector) Number { return h.N.Dot(p).Minus(h.D) }
 
 // toPlane returns the shortest way from a point to the plane.
-func (h half) toPlane(p vector) vector {
-	return h.n.scaled(h.excess(p).negated().over(h.n.square()))
+func (h Half) toPlane(p Vector) Vector {
+	return h.N.Scaled(h.Excess(p).Negated().Over(h.N.Square()))
+}
+
+// Crossing returns the point that is common to the planes of h, a and b, and whether there is just one.
+func (h Half) Crossing(a, b Half) (Vector, bool) {
+	// Each of these is the direction of the line in which two of the planes cross.
+	ab, bh, ha := a.N.Cross(b.N), b.N.Cross(h.N), h.N.Cross(a.N)
+	volume := h.N.Dot(ab)
+	if volume.IsZero() {
+		return Vector{}, false
+	}
+	sum := ab.Scaled(h.D).Plus(bh.Scaled(a.D)).Plus(ha.Scaled(b.D))
+	return sum.Scaled(Integer(1).Over(volume)), true
 }
 
 // CheckHalf returns the first error of a half-space, or OK.
 func CheckHalf(h api.Half) api.Errno {
-	_, e := readHalf(h)
+	_, e := ReadHalf(h)
 	return e
 }
 
 // MakeHalf returns the half-space n.x <= d.
 func MakeHalf(n api.Vec, d api.Rat) (api.Half, api.Errno) {
-	x, y, e := readBoth(readVec, n, read, d)
+	x, y, e := readBoth(ReadVec, n, ReadNumber, d)
 	if e != api.OK {
 		return api.Half{}, e
 	}
-	if x.isZero() {
+	if x.IsZero() {
 		return api.Half{}, api.ErrZero
 	}
-	return half{x, y}.write()
+	return Half{x, y}.Write()
 }
 
 // Opposite returns the other side of a half-space.
 func Opposite(h api.Half) (api.Half, api.Errno) {
-	r, e := readHalf(h)
+	r, e := ReadHalf(h)
 	if e != api.OK {
 		return api.Half{}, e
 	}
-	return half{each(number.negated, r.n), r.d.negated()}.write()
+	return r.Opposite().Write()
 }
 
 // Side returns -1 for a point inside, 0 on the plane, and 1 outside.
 func Side(h api.Half, p api.Vec) (int, api.Errno) {
-	r, q, e := readBoth(readHalf, h, readVec, p)
+	r, q, e := readBoth(ReadHalf, h, ReadVec, p)
 	if e != api.OK {
 		return 0, e
 	}
-	return r.excess(q).sign(), api.OK
+	return r.Excess(q).Sign(), api.OK
 }
 
 // Through returns the half-space whose plane goes through three points.
 func Through(a, b, c api.Vec) (api.Half, api.Errno) {
-	x, y, errAB := readBoth(readVec, a, readVec, b)
-	z, errC := readVec(c)
+	x, y, errAB := readBoth(ReadVec, a, ReadVec, b)
+	z, errC := ReadVec(c)
 	if e := first(errAB, errC); e != api.OK {
 		return api.Half{}, e
 	}
-	n := y.minus(x).cross(z.minus(x))
-	if n.isZero() {
+	n := y.Minus(x).Cross(z.Minus(x))
+	if n.IsZero() {
 		return api.Half{}, api.ErrNone
 	}
-	return half{n, n.dot(x)}.write()
+	return Half{n, n.Dot(x)}.Write()
 }
 
 // Crossing returns the common point of three planes.
 func Crossing(a, b, c api.Half) (api.Vec, api.Errno) {
-	x, y, errAB := readBoth(readHalf, a, readHalf, b)
-	z, errC := readHalf(c)
+	x, y, errAB := readBoth(ReadHalf, a, ReadHalf, b)
+	z, errC := ReadHalf(c)
 	if e := first(errAB, errC); e != api.OK {
 		return api.Vec{}, e
 	}
-	// Each of these is the direction of the line in which two of the planes cross.
-	yz, zx, xy := y.n.cross(z.n), z.n.cross(x.n), x.n.cross(y.n)
-	volume := x.n.dot(yz)
-	if volume.isZero() {
+	p, ok := x.Crossing(y, z)
+	if !ok {
 		return api.Vec{}, api.ErrNone
 	}
-	sum := yz.scaled(x.d).plus(zx.scaled(y.d)).plus(xy.scaled(z.d))
-	return sum.scaled(integer(1).over(volume)).write()
+	return p.Write()
 }
 
 // Meet returns the point of a line on a plane.
 func Meet(h api.Half, p, d api.Vec) (api.Vec, api.Errno) {
-	r, q, errHP := readBoth(readHalf, h, readVec, p)
-	way, errD := readVec(d)
+	r, q, errHP := readBoth(ReadHalf, h, ReadVec, p)
+	way, errD := ReadVec(d)
 	if e := first(errHP, errD); e != api.OK {
 		return api.Vec{}, e
 	}
-	climb := r.n.dot(way)
-	if climb.isZero() {
+	climb := r.N.Dot(way)
+	if climb.IsZero() {
 		return api.Vec{}, api.ErrNone
 	}
-	return q.minus(way.scaled(r.excess(q).over(climb))).write()
+	return q.Minus(way.Scaled(r.Excess(q).Over(climb))).Write()
 }
 
 // Project returns the foot of a point on a plane.
 func Project(h api.Half, p api.Vec) (api.Vec, api.Errno) {
-	r, q, e := readBoth(readHalf, h, readVec, p)
+	r, q, e := readBoth(ReadHalf, h, ReadVec, p)
 	if e != api.OK {
 		return api.Vec{}, e
 	}
-	return q.plus(r.toPlane(q)).write()
+	return q.Plus(r.toPlane(q)).Write()
 }
 
 // Distance returns the squared distance of a point from a plane.
 func Distance(h api.Half, p api.Vec) (api.Rat, api.Errno) {
-	r, q, e := readBoth(readHalf, h, readVec, p)
+	r, q, e := readBoth(ReadHalf, h, ReadVec, p)
 	if e != api.OK {
 		return "", e
 	}
-	return r.toPlane(q).square().write()
+	return r.toPlane(q).Square().Write()
 }
 
 // Mirror returns the mirror image of a point at a plane.
 func Mirror(h api.Half, p api.Vec) (api.Vec, api.Errno) {
-	r, q, e := readBoth(readHalf, h, readVec, p)
+	r, q, e := readBoth(ReadHalf, h, ReadVec, p)
 	if e != api.OK {
 		return api.Vec{}, e
 	}
-	return q.plus(r.toPlane(q).scaled(integer(2))).write()
+	return q.Plus(r.toPlane(q).Scaled(Integer(2))).Write()
 }

@@ -1,44 +1,77 @@
 package space
 
 import (
+	"cmp"
+	"math"
+	"math/bits"
+	"strconv"
 	"strings"
 
 	"trunnel/api"
 )
 
-// number is a rational number of any size: whether it is below 0, its numerator without the sign, and its denominator, which is not 0.
-// Both have no common divisor above 1, and 0 is not negative.
-// Only texts have limits: what is computed on the way may be as large as it gets.
-type number struct {
-	negative bool
-	num, den natural
+// Number is a rational number of any size. Only texts have limits: what is computed on the way
+// may be as large as it gets, in this package and in those that build on it. The zero value is 0.
+//
+// Most numbers are small: then num is the numerator, and more is the denominator less 1, both are
+// in lowest terms and none of them is the least machine integer. All others are large.
+type Number struct {
+	num, more int64
+	large     *fraction
 }
 
-// integer returns the number of an integer.
-func integer(i int) number {
-	if i < 0 {
-		return number{true, naturalOf(-uint64(i)), naturalOf(1)}
+// Integer returns the number of an integer.
+func Integer(i int) Number {
+	if i == math.MinInt {
+		return fraction{true, naturalOf(1 << 63), naturalOf(1)}.number()
 	}
-	return number{false, naturalOf(uint64(i)), naturalOf(1)}
+	return Number{num: int64(i)}
 }
 
-// ratio returns the number with a sign, a numerator and a denominator other than 0, in lowest terms.
-func ratio(negative bool, num, den natural) number {
-	if num.isZero() {
-		return integer(0)
+// small returns the number of a numerator and a denominator in lowest terms.
+func small(num, den int64) Number { return Number{num: num, more: den - 1} }
+
+// lowest returns the number of a numerator and a denominator above 0.
+func lowest(num, den int64) Number {
+	if den == 1 {
+		return Number{num: num}
 	}
-	if den.isOne() {
-		return number{negative, num, den}
-	}
-	if common := gcd(num, den); !common.isOne() {
-		num, _ = num.divide(common)
-		den, _ = den.divide(common)
-	}
-	return number{negative, num, den}
+	common := int64(gcdWords(uint64(den), magnitude(num)))
+	return small(num/common, den/common)
 }
 
-// read returns the number of a text, and the error of Check.
-func read(a api.Rat) (number, api.Errno) {
+// number returns the number of a fraction.
+func (a fraction) number() Number {
+	if !a.num.isMachine() || !a.den.isMachine() {
+		large := a
+		return Number{large: &large}
+	}
+	num := int64(a.num.low())
+	if a.negative {
+		num = -num
+	}
+	return small(num, int64(a.den.low()))
+}
+
+// isMachine reports whether a natural number is a machine integer with a sign.
+func (a natural) isMachine() bool { return len(a) <= 1 && a.low() <= math.MaxInt64 }
+
+// fraction returns a number as a fraction.
+func (a Number) fraction() fraction {
+	if a.large != nil {
+		return *a.large
+	}
+	return fraction{a.num < 0, naturalOf(magnitude(a.num)), naturalOf(uint64(a.den()))}
+}
+
+// den returns the denominator of a small number.
+func (a Number) den() int64 { return a.more + 1 }
+
+// areSmall reports whether two numbers are.
+func areSmall(a, b Number) bool { return a.large == nil && b.large == nil }
+
+// ReadNumber returns the number of a text, and the error of Check.
+func ReadNumber(a api.Rat) (Number, api.Errno) {
 	digits, negative := strings.CutPrefix(string(a), "-")
 	over, under, split := strings.Cut(digits, "/")
 	if !split {
@@ -46,17 +79,17 @@ func read(a api.Rat) (number, api.Errno) {
 	}
 	switch {
 	case !isPlain(over) || negative && over == "0":
-		return number{}, api.ErrForm
+		return Number{}, api.ErrForm
 	case split && (!isPlain(under) || under == "0" || under == "1"):
-		return number{}, api.ErrForm
+		return Number{}, api.ErrForm
 	case len(over) > api.MaxDigits || len(under) > api.MaxDigits:
-		return number{}, api.ErrLarge
+		return Number{}, api.ErrLarge
 	}
-	x := number{negative, naturalText(over), naturalText(under)}
-	if split && !gcd(x.num, x.den).isOne() {
-		return number{}, api.ErrForm
+	num, den := naturalText(over), naturalText(under)
+	if split && !gcd(num, den).isOne() {
+		return Number{}, api.ErrForm
 	}
-	return x, api.OK
+	return fraction{negative, num, den}.number(), api.OK
 }
 
 // isPlain reports whether a text is that of a natural number without zeros in front.
@@ -74,80 +107,155 @@ func isDigits(s string) bool {
 	return s != ""
 }
 
-// write returns the text of a number, or ErrLarge if it has too many digits.
-func (a number) write() (api.Rat, api.Errno) {
-	text, under := a.num.text(), a.den.text()
-	if len(text) > api.MaxDigits || len(under) > api.MaxDigits {
+// Write returns the text of a number, or ErrLarge if it has too many digits.
+func (a Number) Write() (api.Rat, api.Errno) {
+	over, under := a.text()
+	if len(strings.TrimPrefix(over, "-")) > api.MaxDigits || len(under) > api.MaxDigits {
 		return "", api.ErrLarge
 	}
-	if a.negative {
-		text = "-" + text
+	if under != "1" {
+		over += "/" + under
 	}
-	if !a.den.isOne() {
-		text += "/" + under
-	}
-	return api.Rat(text), api.OK
+	return api.Rat(over), api.OK
 }
 
-func (a number) isZero() bool { return a.num.isZero() }
+// text returns the decimal digits of the numerator with its sign, and of the denominator.
+func (a Number) text() (over, under string) {
+	if a.large != nil {
+		return a.large.text()
+	}
+	return strconv.FormatInt(a.num, 10), strconv.FormatInt(a.den(), 10)
+}
 
-// sign returns -1, 0 or 1.
-func (a number) sign() int {
+// IsZero reports whether a is 0.
+func (a Number) IsZero() bool { return a.large == nil && a.num == 0 }
+
+// Sign returns -1, 0 or 1.
+func (a Number) Sign() int {
 	switch {
-	case a.negative:
+	case a.large == nil:
+		return cmp.Compare(a.num, 0)
+	case a.large.negative:
 		return -1
-	case a.isZero():
-		return 0
 	}
 	return 1
 }
 
-func (a number) negated() number {
-	return number{!a.negative && !a.isZero(), a.num, a.den}
+// Negated returns -a.
+func (a Number) Negated() Number {
+	if a.large == nil {
+		return Number{num: -a.num, more: a.more}
+	}
+	return a.large.negated().number()
 }
 
-func (a number) plus(b number) number {
-	left, right, den := a.num, b.num, a.den
-	if a.den.compare(b.den) != 0 {
-		left, right, den = left.times(b.den), right.times(a.den), den.times(b.den)
+// Plus returns a + b.
+func (a Number) Plus(b Number) Number {
+	if areSmall(a, b) {
+		if sum, ok := a.plusSmall(b); ok {
+			return sum
+		}
 	}
+	return a.fraction().plus(b.fraction()).number()
+}
+
+// plusSmall returns the sum of small numbers, unless it takes large ones.
+func (a Number) plusSmall(b Number) (Number, bool) {
+	if a.more == b.more {
+		sum, ok := sumOf(a.num, b.num)
+		return lowest(sum, a.den()), ok
+	}
+	left, okLeft := productOf(a.num, b.den())
+	right, okRight := productOf(b.num, a.den())
+	den, okDen := productOf(a.den(), b.den())
+	if !okLeft || !okRight || !okDen {
+		return Number{}, false
+	}
+	sum, ok := sumOf(left, right)
+	return lowest(sum, den), ok
+}
+
+// Minus returns a - b.
+func (a Number) Minus(b Number) Number { return a.Plus(b.Negated()) }
+
+// Times returns a b.
+func (a Number) Times(b Number) Number {
+	if areSmall(a, b) {
+		if product, ok := a.timesSmall(b); ok {
+			return product
+		}
+	}
+	return a.fraction().times(b.fraction()).number()
+}
+
+// timesSmall returns the product of small numbers, unless it takes large ones.
+func (a Number) timesSmall(b Number) (Number, bool) {
+	// What is divided out crosswise is not there to be divided out of the product.
+	left, right := lowest(a.num, b.den()), lowest(b.num, a.den())
+	num, okNum := productOf(left.num, right.num)
+	den, okDen := productOf(left.den(), right.den())
+	return small(num, den), okNum && okDen
+}
+
+// Over returns a / b, where b is not 0.
+func (a Number) Over(b Number) Number {
+	if b.large != nil {
+		return a.Times(b.large.inverse().number())
+	}
+	if b.num < 0 {
+		return a.Times(small(-b.den(), -b.num))
+	}
+	return a.Times(small(b.den(), b.num))
+}
+
+// Compare returns -1, 0 or 1 if a is less than, equal to, or greater than b.
+func (a Number) Compare(b Number) int {
 	switch {
-	case a.negative == b.negative:
-		return ratio(a.negative, left.plus(right), den)
-	case left.compare(right) < 0:
-		return ratio(b.negative, right.minus(left), den)
+	case !areSmall(a, b):
+		return a.fraction().compare(b.fraction())
+	case a.more == b.more || a.Sign() != b.Sign():
+		return cmp.Compare(a.num, b.num)
 	}
-	return ratio(a.negative, left.minus(right), den)
+	highA, lowA := bits.Mul64(magnitude(a.num), uint64(b.den()))
+	highB, lowB := bits.Mul64(magnitude(b.num), uint64(a.den()))
+	return a.Sign() * cmp.Or(cmp.Compare(highA, highB), cmp.Compare(lowA, lowB))
 }
-
-func (a number) minus(b number) number { return a.plus(b.negated()) }
-
-func (a number) times(b number) number {
-	return ratio(a.negative != b.negative, a.num.times(b.num), a.den.times(b.den))
-}
-
-// over returns the quotient of a and b, which is not 0.
-func (a number) over(b number) number {
-	return ratio(a.negative != b.negative, a.num.times(b.den), a.den.times(b.num))
-}
-
-// compare returns -1, 0 or 1 if a is less than, equal to, or greater than b.
-func (a number) compare(b number) int { return a.minus(b).sign() }
 
 // floor returns the greatest integer that is at most a.
-func (a number) floor() number {
-	whole, rest := a.num.divide(a.den)
-	if a.negative && !rest.isZero() {
-		whole = whole.plus(naturalOf(1))
-	}
-	return ratio(a.negative, whole, naturalOf(1))
-}
+func (a Number) floor() Number { return a.fraction().floor().number() }
 
 // total returns the sum of numbers.
-func total(numbers ...number) number {
-	sum := integer(0)
+func total(numbers ...Number) Number {
+	var sum Number
 	for _, x := range numbers {
-		sum = sum.plus(x)
+		sum = sum.Plus(x)
 	}
 	return sum
+}
+
+// magnitude returns the absolute value of a.
+func magnitude(a int64) uint64 {
+	if a < 0 {
+		return -uint64(a)
+	}
+	return uint64(a)
+}
+
+// sumOf returns a + b, and whether it is a machine integer other than the least one.
+func sumOf(a, b int64) (int64, bool) {
+	sum := a + b
+	overflow := (a < 0) == (b < 0) && (sum < 0) != (a < 0)
+	return sum, !overflow && sum != math.MinInt64
+}
+
+// productOf returns a b, and whether it is a machine integer other than the least one.
+func productOf(a, b int64) (int64, bool) {
+	high, low := bits.Mul64(magnitude(a), magnitude(b))
+	if high != 0 || low > math.MaxInt64 {
+		return 0, false
+	}
+	if (a < 0) != (b < 0) {
+		return -int64(low), true
+	}
+	return int64(low), true
 }

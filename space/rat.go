@@ -8,7 +8,7 @@ import (
 
 // Check returns the first error of a number, or OK.
 func Check(a api.Rat) api.Errno {
-	_, e := read(a)
+	_, e := ReadNumber(a)
 	return e
 }
 
@@ -17,7 +17,7 @@ func Of(num, den int) (api.Rat, api.Errno) {
 	if den == 0 {
 		return "", api.ErrZero
 	}
-	return integer(num).over(integer(den)).write()
+	return Integer(num).Over(Integer(den)).Write()
 }
 
 // Parse returns the number that a text such as 3, -6/4 or 0.25 describes.
@@ -30,7 +30,7 @@ func Parse(s string) (api.Rat, api.Errno) {
 	if e != api.OK {
 		return "", e
 	}
-	return ratio(negative, naturalText(over), naturalText(under)).write()
+	return ratio(negative, naturalText(over), naturalText(under)).number().Write()
 }
 
 // parts returns the digits of the numerator and of the denominator that a text without a sign describes.
@@ -52,49 +52,49 @@ func parts(text string) (over, under string, e api.Errno) {
 }
 
 // Add returns the sum.
-func Add(a, b api.Rat) (api.Rat, api.Errno) { return compute(number.plus, a, b) }
+func Add(a, b api.Rat) (api.Rat, api.Errno) { return compute(Number.Plus, a, b) }
 
 // Sub returns the difference.
-func Sub(a, b api.Rat) (api.Rat, api.Errno) { return compute(number.minus, a, b) }
+func Sub(a, b api.Rat) (api.Rat, api.Errno) { return compute(Number.Minus, a, b) }
 
 // Mul returns the product.
-func Mul(a, b api.Rat) (api.Rat, api.Errno) { return compute(number.times, a, b) }
+func Mul(a, b api.Rat) (api.Rat, api.Errno) { return compute(Number.Times, a, b) }
 
 // compute returns what an operation makes of two numbers.
-func compute(operation func(a, b number) number, a, b api.Rat) (api.Rat, api.Errno) {
-	x, y, e := readBoth(read, a, read, b)
+func compute(operation func(a, b Number) Number, a, b api.Rat) (api.Rat, api.Errno) {
+	x, y, e := readBoth(ReadNumber, a, ReadNumber, b)
 	if e != api.OK {
 		return "", e
 	}
-	return operation(x, y).write()
+	return operation(x, y).Write()
 }
 
 // Div returns the quotient.
 func Div(a, b api.Rat) (api.Rat, api.Errno) {
-	x, y, e := readBoth(read, a, read, b)
+	x, y, e := readBoth(ReadNumber, a, ReadNumber, b)
 	if e != api.OK {
 		return "", e
 	}
-	if y.isZero() {
+	if y.IsZero() {
 		return "", api.ErrZero
 	}
-	return x.over(y).write()
+	return x.Over(y).Write()
 }
 
 // Compare returns -1, 0 or 1.
 func Compare(a, b api.Rat) (int, api.Errno) {
-	x, y, e := readBoth(read, a, read, b)
+	x, y, e := readBoth(ReadNumber, a, ReadNumber, b)
 	if e != api.OK {
 		return 0, e
 	}
-	return x.compare(y), api.OK
+	return x.Compare(y), api.OK
 }
 
 // Floor returns the greatest integer that is at most a.
 func Floor(a api.Rat) (api.Rat, api.Errno) {
-	x, e := read(a)
+	x, e := ReadNumber(a)
 	if e != api.OK {
 		return "", e
 	}
-	return x.floor().write()
+	return x.floor().Write()
 }

@@ -1,7 +1,9 @@
 // Package space is layer 1: see shared/doc/01-space.md.
 //
 // Every exported function reads its arguments (texts) into numbers without limits, computes with
-// these, and writes the result, which is the only place where it may become too large.
+// these, and writes the result, which is the only place where it may become too large. The types
+// of these numbers (Number, Vector, Half) are exported for the packages of the other layers, whose
+// numbers on the way have no limits either.
 package space
 
 import "trunnel/api"

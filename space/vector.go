@@ -2,27 +2,27 @@ package space
 
 import "trunnel/api"
 
-// vector is a vector, or a point, with coordinates of any size.
-type vector [3]number
+// Vector is a vector, or a point, with coordinates of any size.
+type Vector [3]Number
 
-// integers returns the vector of three integers.
-func integers(coordinates [3]int) vector { return each(integer, coordinates) }
+// Integers returns the vector of three integers.
+func Integers(coordinates [3]int) Vector { return each(Integer, coordinates) }
 
-// readVec returns the vector of a text, and the error of CheckVec.
-func readVec(v api.Vec) (vector, api.Errno) {
-	var r vector
+// ReadVec returns the vector of a text, and the error of CheckVec.
+func ReadVec(v api.Vec) (Vector, api.Errno) {
+	var r Vector
 	var errors [3]api.Errno
 	for i, text := range v {
-		r[i], errors[i] = read(text)
+		r[i], errors[i] = ReadNumber(text)
 	}
 	return r, first(errors[:]...)
 }
 
-// write returns the texts of a vector, or ErrLarge.
-func (a vector) write() (api.Vec, api.Errno) {
+// Write returns the texts of a vector, or ErrLarge.
+func (a Vector) Write() (api.Vec, api.Errno) {
 	var v api.Vec
 	for i, x := range a {
-		text, e := x.write()
+		text, e := x.Write()
 		if e != api.OK {
 			return api.Vec{}, e
 		}
@@ -31,97 +31,100 @@ func (a vector) write() (api.Vec, api.Errno) {
 	return v, api.OK
 }
 
-func (a vector) isZero() bool {
-	return a[0].isZero() && a[1].isZero() && a[2].isZero()
+func (a Vector) IsZero() bool {
+	return a[0].IsZero() && a[1].IsZero() && a[2].IsZero()
 }
 
-func (a vector) plus(b vector) vector { return join(number.plus, a, b) }
+func (a Vector) Plus(b Vector) Vector { return join(Number.Plus, a, b) }
 
-func (a vector) minus(b vector) vector { return join(number.minus, a, b) }
+func (a Vector) Minus(b Vector) Vector { return join(Number.Minus, a, b) }
 
-// scaled returns c times a.
-func (a vector) scaled(c number) vector { return each(c.times, a) }
+// Negated returns the opposite vector.
+func (a Vector) Negated() Vector { return each(Number.Negated, a) }
 
-// dot returns the scalar product.
-func (a vector) dot(b vector) number {
-	products := join(number.times, a, b)
+// Scaled returns c times a.
+func (a Vector) Scaled(c Number) Vector { return each(c.Times, a) }
+
+// Dot returns the scalar product.
+func (a Vector) Dot(b Vector) Number {
+	products := join(Number.Times, a, b)
 	return total(products[:]...)
 }
 
-// cross returns the vector product.
-func (a vector) cross(b vector) vector {
-	var c vector
+// Cross returns the vector product.
+func (a Vector) Cross(b Vector) Vector {
+	var c Vector
 	for i := range c {
 		j, k := (i+1)%3, (i+2)%3
-		c[i] = a[j].times(b[k]).minus(a[k].times(b[j]))
+		c[i] = a[j].Times(b[k]).Minus(a[k].Times(b[j]))
 	}
 	return c
 }
 
-// square returns the squared length.
-func (a vector) square() number { return a.dot(a) }
+// Square returns the squared length.
+func (a Vector) Square() Number { return a.Dot(a) }
 
 // CheckVec returns the first error of a vector, or OK.
 func CheckVec(v api.Vec) api.Errno {
-	_, e := readVec(v)
+	_, e := ReadVec(v)
 	return e
 }
 
 // AddVec returns the sum of two vectors.
-func AddVec(a, b api.Vec) (api.Vec, api.Errno) { return computeVec(vector.plus, a, b) }
+func AddVec(a, b api.Vec) (api.Vec, api.Errno) { return computeVec(Vector.Plus, a, b) }
 
 // SubVec returns the difference of two vectors.
-func SubVec(a, b api.Vec) (api.Vec, api.Errno) { return computeVec(vector.minus, a, b) }
+func SubVec(a, b api.Vec) (api.Vec, api.Errno) { return computeVec(Vector.Minus, a, b) }
 
 // Cross returns the vector product of two vectors.
-func Cross(a, b api.Vec) (api.Vec, api.Errno) { return computeVec(vector.cross, a, b) }
+func Cross(a, b api.Vec) (api.Vec, api.Errno) { return computeVec(Vector.Cross, a, b) }
 
 // computeVec returns the vector that an operation makes of two vectors.
-func computeVec(operation func(a, b vector) vector, a, b api.Vec) (api.Vec, api.Errno) {
-	x, y, e := readBoth(readVec, a, readVec, b)
+func computeVec(operation func(a, b Vector) Vector, a, b api.Vec) (api.Vec, api.Errno) {
+	x, y, e := readBoth(ReadVec, a, ReadVec, b)
 	if e != api.OK {
 		return api.Vec{}, e
 	}
-	return operation(x, y).write()
+	return operation(x, y).Write()
 }
 
 // Scale returns a number times a vector.
 func Scale(c api.Rat, v api.Vec) (api.Vec, api.Errno) {
-	x, y, e := readBoth(read, c, readVec, v)
+	x, y, e := readBoth(ReadNumber, c, ReadVec, v)
 	if e != api.OK {
 		return api.Vec{}, e
 	}
-	return y.scaled(x).write()
+	return y.Scaled(x).Write()
 }
 
 // Dot returns the scalar product of two vectors.
 func Dot(a, b api.Vec) (api.Rat, api.Errno) {
-	x, y, e := readBoth(readVec, a, readVec, b)
+	x, y, e := readBoth(ReadVec, a, ReadVec, b)
 	if e != api.OK {
 		return "", e
 	}
-	return x.dot(y).write()
+	return x.Dot(y).Write()
 }
 
 // Square returns the squared length of a vector.
 func Square(v api.Vec) (api.Rat, api.Errno) {
-	x, e := readVec(v)
+	x, e := ReadVec(v)
 	if e != api.OK {
 		return "", e
 	}
-	return x.square().write()
+	return x.Square().Write()
 }
 
 // Along returns the number by which a vector becomes another one.
 func Along(u, v api.Vec) (api.Rat, api.Errno) {
-	x, y, e := readBoth(readVec, u, readVec, v)
+	x, y, e := readBoth(ReadVec, u, ReadVec, v)
 	switch {
 	case e != api.OK:
 		return "", e
-	case x.isZero():
+	case x.IsZero():
 		return "", api.ErrZero
-	case !x.cross(y).isZero():
+	case !x.Cross(y).IsZero():
 		return "", api.ErrNone
 	}
-	return y.dot(x).over(x.square()).write()
+	return y.Dot(x).Over(x.Square()).Write()
 }
