@@ -56,6 +56,24 @@ func TestFacets(t *testing.T) {
 	}
 }
 
+func TestFacetsFarAway(t *testing.T) {
+	b := column(5, "1")
+	for _, at := range []api.Vec{{digits(597), "-" + digits(597), digits(590)}, {"0", "-1/" + digits(590), digits(20)}} {
+		moved := must[api.Solid](t)(solid.Move(api.Solid{b}, plain(at)))
+		var wanted [][]api.Vec
+		for _, facet := range must[[][]api.Vec](t)(solid.Facets(b)) {
+			for i, p := range facet {
+				facet[i] = sure(space.AddVec(p, at))
+			}
+			wanted = append(wanted, facet)
+		}
+		got, e := solid.Facets(moved[0])
+		want(t, "Facets far away", got, e, wanted, api.OK)
+		v, e := solid.Volume(moved)
+		want(t, "Volume far away", v, e, must[api.Rat](t)(solid.Volume(api.Solid{b})), api.OK)
+	}
+}
+
 func TestAreas(t *testing.T) {
 	got, e := solid.Areas(block(0, 0, 0, 2, 3, 4))
 	want(t, "Areas of a box", got, e, []api.Vec{{"-12", "0", "0"}, {"0", "-8", "0"}, {"0", "0", "-6"}, {"0", "0", "6"}, {"0", "8", "0"}, {"12", "0", "0"}}, api.OK)
