@@ -15,6 +15,9 @@ type body struct {
 	facets  []facet
 }
 
+// Bodies are the bodies of a solid, without limits, and never changed either. Only texts have limits.
+type Bodies []body
+
 // facet is the facet of a half-space: the numbers of its corners, counterclockwise seen from outside.
 type facet struct {
 	half space.Half

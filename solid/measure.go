@@ -2,6 +2,7 @@ package solid
 
 import (
 	"cmp"
+	"iter"
 	"slices"
 
 	"trunnel/api"
@@ -60,13 +61,26 @@ func (b body) moments() (space.Number, space.Vector) {
 	return volume.Over(space.Integer(6)), moment.Scaled(space.Integer(1).Over(space.Integer(24)))
 }
 
-// volumeOf returns the volume of bodies.
-func volumeOf(bodies []body) space.Number {
+// Volume returns the volume of all bodies.
+func (b Bodies) Volume() space.Number {
 	var volume space.Number
-	for _, b := range bodies {
-		volume = volume.Plus(b.volume())
+	for _, one := range b {
+		volume = volume.Plus(one.volume())
 	}
 	return volume
+}
+
+// Corners goes through the corners of all bodies. Those of several bodies come several times.
+func (b Bodies) Corners() iter.Seq[space.Vector] {
+	return func(yield func(space.Vector) bool) {
+		for _, one := range b {
+			for _, p := range one.corners {
+				if !yield(p) {
+					return
+				}
+			}
+		}
+	}
 }
 
 // Corners returns the corners of a body.
@@ -108,16 +122,16 @@ func Areas(b api.Body) ([]api.Vec, api.Errno) {
 
 // Volume returns the volume of a solid.
 func Volume(s api.Solid) (api.Rat, api.Errno) {
-	bodies, e := readSolid(s)
+	bodies, e := Read(s)
 	if e != api.OK {
 		return "", e
 	}
-	return volumeOf(bodies).Write()
+	return bodies.Volume().Write()
 }
 
 // Centre returns the centre of mass of a solid.
 func Centre(s api.Solid) (api.Vec, api.Errno) {
-	bodies, e := readSolid(s)
+	bodies, e := Read(s)
 	switch {
 	case e != api.OK:
 		return api.Vec{}, e
@@ -129,7 +143,7 @@ func Centre(s api.Solid) (api.Vec, api.Errno) {
 		_, more := b.moments()
 		moment = moment.Plus(more)
 	}
-	return moment.Scaled(space.Integer(1).Over(volumeOf(bodies))).Write()
+	return moment.Scaled(space.Integer(1).Over(bodies.Volume())).Write()
 }
 
 // extent returns the least and the greatest product of a vector with a point of bodies, of which there is one at least.
@@ -145,7 +159,7 @@ func extent(d space.Vector, bodies ...body) (least, most space.Number) {
 
 // Extent returns the least and the greatest product of a vector with a point of a solid.
 func Extent(s api.Solid, d api.Vec) (api.Rat, api.Rat, api.Errno) {
-	bodies, errS := readSolid(s)
+	bodies, errS := Read(s)
 	way, errD := space.ReadVec(d)
 	if e := cmp.Or(errS, errD); e != api.OK {
 		return "", "", e

@@ -9,29 +9,29 @@ import (
 )
 
 // operate returns what an operation makes of the bodies of two solids.
-func operate(operation func(a, b []body) []body, a, b api.Solid) (api.Solid, api.Errno) {
+func operate(operation func(a, b Bodies) Bodies, a, b api.Solid) (api.Solid, api.Errno) {
 	p, q, e := readSolids(a, b)
 	if e != api.OK {
 		return nil, e
 	}
-	return writeSolid(operation(p, q))
+	return operation(p, q).Write()
 }
 
 // And returns what two solids have in common.
-func And(a, b api.Solid) (api.Solid, api.Errno) { return operate(and, a, b) }
+func And(a, b api.Solid) (api.Solid, api.Errno) { return operate(Bodies.And, a, b) }
 
 // Minus returns what is left of a solid without another one.
 func Minus(a, b api.Solid) (api.Solid, api.Errno) { return operate(minus, a, b) }
 
 // Union returns the union of two solids.
 func Union(a, b api.Solid) (api.Solid, api.Errno) {
-	unite := func(a, b []body) []body { return slices.Concat(a, minus(b, a)) }
+	unite := func(a, b Bodies) Bodies { return slices.Concat(a, minus(b, a)) }
 	return operate(unite, a, b)
 }
 
-// and returns the common bodies of each body of a with each one of b.
-func and(a, b []body) []body {
-	var all []body
+// And returns the common bodies of each body of a with each one of b.
+func (a Bodies) And(b Bodies) Bodies {
+	var all Bodies
 	for _, p := range a {
 		for _, q := range b {
 			if both, ok := common(p, q); ok {
@@ -43,7 +43,7 @@ func and(a, b []body) []body {
 }
 
 // minus returns what is left of a behind all bodies of b.
-func minus(a, b []body) []body {
+func minus(a, b Bodies) Bodies {
 	left := a
 	for _, q := range b {
 		left = without(left, q)
@@ -53,8 +53,8 @@ func minus(a, b []body) []body {
 
 // without returns what is left of bodies behind one body: for each half-space of q in order
 // the part that is outside of it, and inside of those before it.
-func without(bodies []body, q body) []body {
-	var left []body
+func without(bodies Bodies, q body) Bodies {
+	var left Bodies
 pieces:
 	for _, p := range bodies {
 		if areApart(p, q) {
@@ -84,8 +84,8 @@ func Same(a, b api.Solid) (bool, api.Errno) {
 		return false, e
 	}
 	// What both have in common is as large as either one only if neither one has more than that.
-	both := volumeOf(and(p, q))
-	return both.Compare(volumeOf(p)) == 0 && both.Compare(volumeOf(q)) == 0, api.OK
+	both := p.And(q).Volume()
+	return both.Compare(p.Volume()) == 0 && both.Compare(q.Volume()) == 0, api.OK
 }
 
 // Cut returns the part of a solid in a half-space.
@@ -94,19 +94,19 @@ func Cut(s api.Solid, h api.Half) (api.Solid, api.Errno) {
 	if e != api.OK {
 		return nil, e
 	}
-	return writeSolid(cutEach(bodies, r))
+	return cutEach(bodies, r).Write()
 }
 
 // readCut returns a solid and a half-space, and the first error of both.
-func readCut(s api.Solid, h api.Half) ([]body, space.Half, api.Errno) {
-	bodies, errS := readSolid(s)
+func readCut(s api.Solid, h api.Half) (Bodies, space.Half, api.Errno) {
+	bodies, errS := Read(s)
 	r, errH := space.ReadHalf(h)
 	return bodies, r, cmp.Or(errS, errH)
 }
 
 // cutEach returns the parts of bodies in a half-space.
-func cutEach(bodies []body, h space.Half) []body {
-	var parts []body
+func cutEach(bodies Bodies, h space.Half) Bodies {
+	var parts Bodies
 	for _, b := range bodies {
 		if part, ok := b.cut(h); ok {
 			parts = append(parts, part)

@@ -11,12 +11,12 @@ import (
 
 // Position returns whether a point is inside a solid, on its surface, or outside.
 func Position(s api.Solid, p api.Vec) (int, api.Errno) {
-	bodies, errS := readSolid(s)
+	bodies, errS := Read(s)
 	point, errP := space.ReadVec(p)
 	if e := cmp.Or(errS, errP); e != api.OK {
 		return 0, e
 	}
-	var parts []body
+	var parts Bodies
 	for _, b := range bodies {
 		if halves := b.halves(); contains(halves, point) {
 			parts = append(parts, neighbourhood(halves, point))
@@ -25,7 +25,7 @@ func Position(s api.Solid, p api.Vec) (int, api.Errno) {
 	switch {
 	case len(parts) == 0:
 		return -1, api.OK
-	case volumeOf(parts).Compare(cube().volume()) < 0:
+	case parts.Volume().Compare(cube().volume()) < 0:
 		return 0, api.OK
 	}
 	return 1, api.OK
@@ -110,7 +110,7 @@ func Contacts(a, b api.Solid) ([]api.Contact, api.Errno) {
 }
 
 // touching returns the planes in which bodies touch others, with their area vectors.
-func touching(a, b []body) map[api.Half]space.Vector {
+func touching(a, b Bodies) map[api.Half]space.Vector {
 	areas := map[api.Half]space.Vector{}
 	for _, p := range a {
 		for _, q := range b {
@@ -137,10 +137,16 @@ func Section(s api.Solid, h api.Half) (api.Vec, api.Errno) {
 	if e != api.OK {
 		return api.Vec{}, e
 	}
+	return bodies.Section(plane).Write()
+}
+
+// Section returns the area vector of the section of all bodies.
+func (b Bodies) Section(h space.Half) space.Vector {
+	plane := h.Reduced() // the form that the facets of a body have
 	// A part that lies in h has the section as its facet there.
 	var sum space.Vector
-	for _, part := range cutEach(bodies, plane) {
+	for _, part := range cutEach(b, plane) {
 		sum = sum.Plus(part.area(plane))
 	}
-	return sum.Write()
+	return sum
 }

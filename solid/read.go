@@ -47,12 +47,12 @@ func readBody(b api.Body) (body, api.Errno) {
 	return r, e
 }
 
-// readSolid returns the bodies of a solid, and the error of CheckSolid.
-func readSolid(s api.Solid) ([]body, api.Errno) {
+// Read returns the bodies of a solid, and the error of CheckSolid.
+func Read(s api.Solid) (Bodies, api.Errno) {
 	if len(s) > api.MaxBodies {
 		return nil, api.ErrMany
 	}
-	bodies := make([]body, len(s))
+	bodies := make(Bodies, len(s))
 	for i, b := range s {
 		r, e := readBody(b)
 		if e != api.OK {
@@ -71,9 +71,9 @@ func readSolid(s api.Solid) ([]body, api.Errno) {
 }
 
 // readSolids returns the bodies of two solids, and the first error of both.
-func readSolids(a, b api.Solid) (p, q []body, e api.Errno) {
-	p, errA := readSolid(a)
-	q, errB := readSolid(b)
+func readSolids(a, b api.Solid) (p, q Bodies, e api.Errno) {
+	p, errA := Read(a)
+	q, errB := Read(b)
 	return p, q, cmp.Or(errA, errB)
 }
 
@@ -99,15 +99,15 @@ func writeBody(halves []space.Half) (api.Body, api.Errno) {
 	return b, api.OK
 }
 
-// writeSolid returns the solid of bodies, or its error.
-func writeSolid(bodies []body) (api.Solid, api.Errno) {
-	if len(bodies) > api.MaxBodies {
+// Write returns the solid of bodies, or the error of a set operation with this result.
+func (b Bodies) Write() (api.Solid, api.Errno) {
+	if len(b) > api.MaxBodies {
 		return nil, api.ErrMany
 	}
-	s := make(api.Solid, len(bodies))
-	for i, b := range bodies {
+	s := make(api.Solid, len(b))
+	for i, one := range b {
 		var e api.Errno
-		if s[i], e = writeBody(b.halves()); e != api.OK {
+		if s[i], e = writeBody(one.halves()); e != api.OK {
 			return nil, e
 		}
 	}

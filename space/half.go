@@ -32,15 +32,21 @@ func checkNormal(n [3]int) api.Errno {
 	return api.OK
 }
 
+// Reduced returns the one form of a half-space, with numbers of any size.
+func (h Half) Reduced() Half {
+	factor := h.N.whole()
+	return Half{h.N.Scaled(factor), h.D.Times(factor)}
+}
+
 // Write returns the one form of a half-space, or ErrLarge.
 func (h Half) Write() (api.Half, api.Errno) {
-	factor := h.N.whole()
-	d, e := h.D.Times(factor).Write()
+	reduced := h.Reduced()
+	d, e := reduced.D.Write()
 	if e != api.OK {
 		return api.Half{}, e
 	}
 	var n [3]int
-	for i, x := range h.N.Scaled(factor) {
+	for i, x := range reduced.N {
 		if x.large != nil || magnitude(x.num) > api.MaxNumber {
 			return api.Half{}, api.ErrLarge
 		}

@@ -79,3 +79,30 @@ func TestIntegers(t *testing.T) {
 		t.Error("the zero value of a vector is 0, and no other one")
 	}
 }
+
+func TestReducedHalves(t *testing.T) {
+	s := newSource(31)
+	for range 2000 {
+		h := Half{Vector{numberOf(t, s.edgy()), numberOf(t, s.edgy()), numberOf(t, s.edgy())}, numberOf(t, s.edgy())}
+		if h.N.IsZero() {
+			continue
+		}
+		r := h.Reduced()
+		// N is the same vector but for a factor above 0, and D has this factor, too.
+		if !r.N.Cross(h.N).IsZero() || r.N.Dot(h.N).Sign() <= 0 || r.D.Times(h.N.Dot(h.N)).Compare(h.D.Times(h.N.Dot(r.N))) != 0 {
+			t.Errorf("Reduced of %v is %v", h, r)
+		}
+		common := new(big.Int)
+		for _, x := range r.N {
+			text, _ := x.text()
+			num, _ := new(big.Int).SetString(text, 10)
+			if _, den := x.text(); den != "1" {
+				t.Errorf("Reduced of %v has the denominator %s", h, den)
+			}
+			common.GCD(nil, nil, common, num.Abs(num))
+		}
+		if common.Cmp(big.NewInt(1)) != 0 {
+			t.Errorf("Reduced of %v has the divisor %v", h, common)
+		}
+	}
+}

@@ -1,0 +1,68 @@
+package solid_test
+
+import (
+	"slices"
+	"testing"
+
+	"trunnel/api"
+	"trunnel/solid"
+	"trunnel/space"
+)
+
+// Bodies of any size, which the other packages compute with (Rules: no bounds on the way).
+
+func TestBodiesAreThoseOfSolids(t *testing.T) {
+	s := newSource(22)
+	for range 30 {
+		a, b, h := s.solid(2), s.solid(2), s.half()
+		p, q, plane := must[solid.Bodies](t)(solid.Read(a)), must[solid.Bodies](t)(solid.Read(b)), must[space.Half](t)(space.ReadHalf(h))
+		got, e := p.Write()
+		want(t, "Write", got, e, a, api.OK)
+		got, e = p.And(q).Write()
+		want(t, "And", got, e, sure(solid.And(a, b)), api.OK)
+		volume, e := p.Volume().Write()
+		want(t, "Volume", volume, e, sure(solid.Volume(a)), api.OK)
+		wanted := sure(solid.Section(a, h))
+		section, e := p.Section(plane).Write()
+		want(t, "Section", section, e, wanted, api.OK)
+		c := must[space.Number](t)(space.ReadNumber("14/3"))
+		section, e = p.Section(space.Half{N: plane.N.Scaled(c), D: plane.D.Times(c)}).Write()
+		want(t, "Section in another form of a half-space", section, e, wanted, api.OK)
+		var corners, all []api.Vec
+		for corner := range p.Corners() {
+			corners = append(corners, must[api.Vec](t)(corner.Write()))
+		}
+		for _, one := range a {
+			all = append(all, sure(solid.Corners(one))...)
+		}
+		slices.SortFunc(corners, comparePoints)
+		slices.SortFunc(all, comparePoints)
+		want(t, "Corners", corners, api.OK, all, api.OK)
+	}
+}
+
+func TestBodiesOfAnySize(t *testing.T) {
+	// Sides with so many digits that the area and the volume have too many.
+	thin := api.Body{half(-1, 0, 0, "0"), half(0, -1, 0, "0"), half(0, 0, -1, "0"), half(0, 0, 1, "1/"+digits(400)), half(0, 1, 0, "1/"+digits(400)), half(1, 0, 0, "1")}
+	b := must[solid.Bodies](t)(solid.Read(api.Solid{thin}))
+	_, e := b.Volume().Write()
+	wantError(t, "the volume of a thin body", e, api.ErrLarge)
+	large := must[space.Number](t)(space.ReadNumber(digits(400)))
+	scaled := b.Volume().Times(large).Times(large)
+	want(t, "the volume of a thin body, times its divisor", scaled.Compare(space.Integer(1)), api.OK, 0, api.OK)
+	middle := space.Half{N: space.Integers([3]int{2, 0, 0}), D: space.Integer(1)}
+	area := b.Section(middle)
+	_, e = area.Write()
+	wantError(t, "the section of a thin body", e, api.ErrLarge)
+	text, e := area.Scaled(large).Scaled(large).Write()
+	want(t, "the section of a thin body, times its divisor", text, e, api.Vec{"1", "0", "0"}, api.OK)
+	end := space.Half{N: space.Integers([3]int{2, 0, 0}), D: space.Integer(2)}
+	want(t, "the section at the end of a thin body, less that in the middle", b.Section(end).Minus(area).IsZero(), api.OK, true, api.OK)
+	_, e = slices.Repeat(b, 65).Write()
+	wantError(t, "Write of 65 bodies", e, api.ErrMany)
+	for range b.Corners() {
+		break // the loop has an end
+	}
+	_, e = solid.Read(api.Solid{thin, thin})
+	wantError(t, "Read of a solid with an error", e, api.ErrClash)
+}
