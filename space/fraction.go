@@ -76,6 +76,13 @@ func (a fraction) times(b fraction) fraction {
 // inverse returns 1 / a, where a is not 0.
 func (a fraction) inverse() fraction { return fraction{a.negative, a.den, a.num} }
 
+// root returns the square root of a, and whether it is a rational number.
+func (a fraction) root() (fraction, bool) {
+	num, okNum := a.num.root()
+	den, okDen := a.den.root()
+	return fraction{false, num, den}, !a.negative && okNum && okDen
+}
+
 // compare returns -1, 0 or 1 if a is less than, equal to, or greater than b.
 func (a fraction) compare(b fraction) int {
 	switch {

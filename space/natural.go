@@ -236,6 +236,25 @@ func shiftedDown(words []uint64, shift uint) natural {
 	return trimmed(shifted)
 }
 
+// root returns the square root of a, and whether it is a natural number.
+// Newton's steps from a number above the root fall until they reach the greatest natural number that is not above it.
+func (a natural) root() (natural, bool) {
+	if a.isZero() {
+		return nil, true
+	}
+	half := (len(a)*64 - bits.LeadingZeros64(a[len(a)-1]) + 1) / 2
+	root := make(natural, half/64+1)
+	root[half/64] = 1 << (half % 64)
+	for {
+		quotient, _ := a.divide(root)
+		next := shiftedDown(root.plus(quotient), 1)
+		if next.compare(root) >= 0 {
+			return root, root.times(root).compare(a) == 0
+		}
+		root = next
+	}
+}
+
 // gcd returns the greatest common divisor of a and b, one of which is not 0.
 func gcd(a, b natural) natural {
 	if a.compare(b) < 0 {

@@ -103,3 +103,33 @@ func TestGcd(t *testing.T) {
 		}
 	}
 }
+
+func TestRootOfNaturals(t *testing.T) {
+	s := newSource(3)
+	for i := range 3000 {
+		a := s.natural(8)
+		if i < 300 {
+			a = naturalOf(uint64(i))
+		}
+		square := a.times(a)
+		wantRoot(t, square)
+		wantRoot(t, square.plus(naturalOf(1)))
+		wantRoot(t, square.plus(a))
+		if !a.isZero() {
+			wantRoot(t, square.minus(naturalOf(1)))
+			wantRoot(t, a)
+		}
+	}
+}
+
+// wantRoot compares the root of a natural with that of package big, if it has one.
+func wantRoot(t *testing.T, a natural) {
+	t.Helper()
+	root, ok := a.root()
+	x := new(big.Int).Sqrt(a.big())
+	if whole := new(big.Int).Mul(x, x).Cmp(a.big()) == 0; ok != whole {
+		t.Errorf("root of %v: got %v", a.big(), ok)
+	} else if ok {
+		wantNatural(t, "root", a, a, root, x)
+	}
+}

@@ -208,6 +208,15 @@ func (a Number) Over(b Number) Number {
 	return a.Times(small(b.den(), b.num))
 }
 
+// Root returns the square root of a, and whether it is a rational number.
+func (a Number) Root() (Number, bool) {
+	root, ok := a.fraction().root()
+	if !ok {
+		return Number{}, false
+	}
+	return root.number(), true
+}
+
 // Compare returns -1, 0 or 1 if a is less than, equal to, or greater than b.
 func (a Number) Compare(b Number) int {
 	switch {

@@ -69,6 +69,25 @@ func TestNumbersOfAnySize(t *testing.T) {
 	}
 }
 
+func TestRoots(t *testing.T) {
+	s := newSource(32)
+	for range 5000 {
+		x := s.edgy()
+		a := numberOf(t, x)
+		root, ok := a.Times(a).Root()
+		if !ok || root.Sign() < 0 {
+			t.Fatalf("Root of the square of %v: got %v, %v", x, root, ok)
+		}
+		wantNumber(t, "Root", root, new(big.Rat).Abs(x))
+		// Twice a square, a third of it and its opposite have no roots but for 0.
+		for _, other := range []Number{a.Times(a).Times(Integer(2)), a.Times(a).Times(Integer(-1)), a.Times(a).Over(Integer(3))} {
+			if root, ok := other.Root(); ok && x.Sign() != 0 || !root.IsZero() {
+				t.Errorf("Root beside the square of %v: got %v, %v", x, root, ok)
+			}
+		}
+	}
+}
+
 func TestIntegers(t *testing.T) {
 	for _, i := range []int{0, 1, -1, math.MaxInt, math.MinInt, math.MinInt + 1} {
 		wantNumber(t, "Integer", Integer(i), frac(int64(i), 1))
