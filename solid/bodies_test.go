@@ -20,6 +20,8 @@ func TestBodiesAreThoseOfSolids(t *testing.T) {
 		want(t, "Write", got, e, a, api.OK)
 		got, e = p.And(q).Write()
 		want(t, "And", got, e, sure(solid.And(a, b)), api.OK)
+		got, e = p.Minus(q).Write()
+		want(t, "Minus", got, e, sure(solid.Minus(a, b)), api.OK)
 		volume, e := p.Volume().Write()
 		want(t, "Volume", volume, e, sure(solid.Volume(a)), api.OK)
 		wanted := sure(solid.Section(a, h))
@@ -60,6 +62,7 @@ func TestBodiesOfAnySize(t *testing.T) {
 	want(t, "the section at the end of a thin body, less that in the middle", b.Section(end).Minus(area).IsZero(), api.OK, true, api.OK)
 	_, e = slices.Repeat(b, 65).Write()
 	wantError(t, "Write of 65 bodies", e, api.ErrMany)
+	want(t, "what is left of 65 bodies without each of them", len(slices.Repeat(b, 65).Minus(b)), api.OK, 0, api.OK)
 	for range b.Corners() {
 		break // the loop has an end
 	}

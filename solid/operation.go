@@ -21,11 +21,11 @@ func operate(operation func(a, b Bodies) Bodies, a, b api.Solid) (api.Solid, api
 func And(a, b api.Solid) (api.Solid, api.Errno) { return operate(Bodies.And, a, b) }
 
 // Minus returns what is left of a solid without another one.
-func Minus(a, b api.Solid) (api.Solid, api.Errno) { return operate(minus, a, b) }
+func Minus(a, b api.Solid) (api.Solid, api.Errno) { return operate(Bodies.Minus, a, b) }
 
 // Union returns the union of two solids.
 func Union(a, b api.Solid) (api.Solid, api.Errno) {
-	unite := func(a, b Bodies) Bodies { return slices.Concat(a, minus(b, a)) }
+	unite := func(a, b Bodies) Bodies { return slices.Concat(a, b.Minus(a)) }
 	return operate(unite, a, b)
 }
 
@@ -42,8 +42,8 @@ func (a Bodies) And(b Bodies) Bodies {
 	return all
 }
 
-// minus returns what is left of a behind all bodies of b.
-func minus(a, b Bodies) Bodies {
+// Minus returns what is left of a behind all bodies of b.
+func (a Bodies) Minus(b Bodies) Bodies {
 	left := a
 	for _, q := range b {
 		left = without(left, q)
