@@ -30,6 +30,10 @@ func TestBodiesAreThoseOfSolids(t *testing.T) {
 		c := must[space.Number](t)(space.ReadNumber("14/3"))
 		section, e = p.Section(space.Half{N: plane.N.Scaled(c), D: plane.D.Times(c)}).Write()
 		want(t, "Section in another form of a half-space", section, e, wanted, api.OK)
+		got, e = p.Cut(plane).Write()
+		want(t, "Cut", got, e, sure(solid.Cut(a, h)), api.OK)
+		centre, e := p.Moment().Scaled(space.Integer(1).Over(p.Volume())).Write()
+		want(t, "Moment, divided by Volume", centre, e, sure(solid.Centre(a)), api.OK)
 		var corners, all []api.Vec
 		for corner := range p.Corners() {
 			corners = append(corners, must[api.Vec](t)(corner.Write()))
@@ -41,6 +45,40 @@ func TestBodiesAreThoseOfSolids(t *testing.T) {
 		slices.SortFunc(all, comparePoints)
 		want(t, "Corners", corners, api.OK, all, api.OK)
 	}
+}
+
+// written returns half-spaces of any form as texts.
+func written(t *testing.T, halves []space.Half) []api.Half {
+	var l []api.Half
+	for _, h := range halves {
+		l = append(l, must[api.Half](t)(h.Write()))
+	}
+	return l
+}
+
+func TestPathsOfBodies(t *testing.T) {
+	s := newSource(23)
+	entered := map[bool]int{}
+	for range 60 {
+		b, c, v := s.body(), s.body(), s.vec(2)
+		way := must[space.Vector](t)(space.ReadVec(v))
+		p, q := must[solid.Bodies](t)(solid.Read(api.Solid{b})), must[solid.Bodies](t)(solid.Read(api.Solid{c}))
+		moved := must[solid.Bodies](t)(solid.Read(must[api.Solid](t)(solid.Move(api.Solid{b}, plain(v)))))
+		// A body is swept where it comes by on its way from here, and on its way back from there.
+		both := append(p.Paths(way)[0], moved.Paths(way.Negated())[0]...)
+		got, e := solid.Normal(written(t, both))
+		wanted, wantedErr := solid.Sweep(b, v)
+		want(t, "what is on both ways", got, e, wanted, wantedErr)
+		for _, body := range q {
+			is := body.Enters(p.Paths(space.Vector{})[0])
+			want(t, "Enters of the way of a body that does not move", is, api.OK, len(p.And(q)) > 0, api.OK)
+			entered[is]++
+		}
+	}
+	if entered[true] < 10 || entered[false] < 3 {
+		t.Errorf("entered or not: %v", entered)
+	}
+	want(t, "Paths of two bodies", len(must[solid.Bodies](t)(solid.Read(api.Solid{block(0, 0, 0, 1, 1, 1), block(1, 0, 0, 2, 1, 1)})).Paths(space.Vector{})), api.OK, 2, api.OK)
 }
 
 func TestBodiesOfAnySize(t *testing.T) {

@@ -132,3 +132,13 @@ func common(a, b body) (body, bool) {
 	}
 	return a.cutAll(b.halves())
 }
+
+// Enters reports whether the part of a body in all half-spaces has interior points.
+func (b body) Enters(halves []space.Half) bool {
+	// Most bodies that have none show it this way, which is quicker than to cut them.
+	if slices.ContainsFunc(halves, b.isOutside) {
+		return false
+	}
+	_, ok := b.cutAll(halves)
+	return ok
+}

@@ -70,6 +70,16 @@ func (b Bodies) Volume() space.Number {
 	return volume
 }
 
+// Moment returns the centre of mass of all bodies times their volume.
+func (b Bodies) Moment() space.Vector {
+	var moment space.Vector
+	for _, one := range b {
+		_, more := one.moments()
+		moment = moment.Plus(more)
+	}
+	return moment
+}
+
 // Corners goes through the corners of all bodies. Those of several bodies come several times.
 func (b Bodies) Corners() iter.Seq[space.Vector] {
 	return func(yield func(space.Vector) bool) {
@@ -138,12 +148,7 @@ func Centre(s api.Solid) (api.Vec, api.Errno) {
 	case len(bodies) == 0:
 		return api.Vec{}, api.ErrEmpty
 	}
-	var moment space.Vector
-	for _, b := range bodies {
-		_, more := b.moments()
-		moment = moment.Plus(more)
-	}
-	return moment.Scaled(space.Integer(1).Over(bodies.Volume())).Write()
+	return bodies.Moment().Scaled(space.Integer(1).Over(bodies.Volume())).Write()
 }
 
 // extent returns the least and the greatest product of a vector with a point of bodies, of which there is one at least.

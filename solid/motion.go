@@ -72,20 +72,41 @@ func Sweep(b api.Body, v api.Vec) (api.Body, api.Errno) {
 	if e := cmp.Or(errB, errV); e != api.OK {
 		return nil, e
 	}
-	var halves []space.Half
+	halves := r.path(way)
 	for _, f := range r.facets {
 		h := f.half
 		if climb := h.N.Dot(way); climb.Sign() > 0 {
 			h.D = h.D.Plus(climb)
-		}
-		halves = append(halves, h)
-	}
-	for e := range r.edges() {
-		if h, ok := e.along(way); ok {
 			halves = append(halves, h)
 		}
 	}
 	return writeBody(halves)
+}
+
+// path returns the half-spaces of all points that a body passes on its way along a vector, without an end:
+// those of the facets out of which the vector does not lead, and those along the edges between these and the others.
+func (b body) path(v space.Vector) []space.Half {
+	var halves []space.Half
+	for _, f := range b.facets {
+		if f.half.N.Dot(v).Sign() <= 0 {
+			halves = append(halves, f.half)
+		}
+	}
+	for e := range b.edges() {
+		if h, ok := e.along(v); ok {
+			halves = append(halves, h)
+		}
+	}
+	return halves
+}
+
+// Paths returns for each body the half-spaces of all points that it passes on its way along a vector, without an end.
+func (b Bodies) Paths(v space.Vector) [][]space.Half {
+	paths := make([][]space.Half, len(b))
+	for i, one := range b {
+		paths[i] = one.path(v)
+	}
+	return paths
 }
 
 // along returns the half-space of the body whose plane leads through an edge and along a vector,

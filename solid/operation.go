@@ -94,7 +94,7 @@ func Cut(s api.Solid, h api.Half) (api.Solid, api.Errno) {
 	if e != api.OK {
 		return nil, e
 	}
-	return cutEach(bodies, r).Write()
+	return bodies.Cut(r).Write()
 }
 
 // readCut returns a solid and a half-space, and the first error of both.
@@ -104,11 +104,11 @@ func readCut(s api.Solid, h api.Half) (Bodies, space.Half, api.Errno) {
 	return bodies, r, cmp.Or(errS, errH)
 }
 
-// cutEach returns the parts of bodies in a half-space.
-func cutEach(bodies Bodies, h space.Half) Bodies {
+// Cut returns the parts of all bodies in a half-space.
+func (b Bodies) Cut(h space.Half) Bodies {
 	var parts Bodies
-	for _, b := range bodies {
-		if part, ok := b.cut(h); ok {
+	for _, one := range b {
+		if part, ok := one.cut(h); ok {
 			parts = append(parts, part)
 		}
 	}

@@ -145,7 +145,7 @@ func (b Bodies) Section(h space.Half) space.Vector {
 	plane := h.Reduced() // the form that the facets of a body have
 	// A part that lies in h has the section as its facet there.
 	var sum space.Vector
-	for _, part := range cutEach(b, plane) {
+	for _, part := range b.Cut(plane) {
 		sum = sum.Plus(part.area(plane))
 	}
 	return sum
