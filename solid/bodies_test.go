@@ -1,6 +1,7 @@
 package solid_test
 
 import (
+	"cmp"
 	"slices"
 	"testing"
 
@@ -45,6 +46,53 @@ func TestBodiesAreThoseOfSolids(t *testing.T) {
 		slices.SortFunc(all, comparePoints)
 		want(t, "Corners", corners, api.OK, all, api.OK)
 	}
+}
+
+func TestEdgesAndHalvesOfBodies(t *testing.T) {
+	s := newSource(24)
+	for range 30 {
+		one := s.solid(3)
+		bodies := must[solid.Bodies](t)(solid.Read(one))
+		var got, wanted [][2]api.Vec
+		for p, q := range bodies.Edges() {
+			e := [2]api.Vec{must[api.Vec](t)(p.Write()), must[api.Vec](t)(q.Write())}
+			if comparePoints(e[0], e[1]) > 0 {
+				e[0], e[1] = e[1], e[0]
+			}
+			got = append(got, e)
+		}
+		for i, b := range bodies {
+			want(t, "Halves", written(t, b.Halves()), api.OK, one[i], api.OK)
+			wanted = append(wanted, edges(one[i])...)
+		}
+		compare := func(e, f [2]api.Vec) int { return cmp.Or(comparePoints(e[0], f[0]), comparePoints(e[1], f[1])) }
+		slices.SortFunc(got, compare)
+		slices.SortFunc(wanted, compare)
+		want(t, "Edges", got, api.OK, wanted, api.OK)
+		for range bodies.Edges() {
+			break // the loop has an end
+		}
+	}
+}
+
+// edges returns the edges of a body: two corners that are together in two planes.
+func edges(b api.Body) [][2]api.Vec {
+	var l [][2]api.Vec
+	points := corners(b)
+	for j, q := range points {
+		for _, p := range points[:j] {
+			planes := 0
+			for _, h := range b {
+				if sure(space.Side(h, p)) == 0 && sure(space.Side(h, q)) == 0 {
+					planes++
+				}
+			}
+			if planes == 2 {
+				l = append(l, [2]api.Vec{p, q})
+			}
+		}
+	}
+	return l
 }
 
 // written returns half-spaces of any form as texts.

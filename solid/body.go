@@ -182,8 +182,8 @@ func (b *body) addFacet(h space.Half, ring []int) {
 	b.facets = append(b.facets, facet{h, ring})
 }
 
-// halves returns the half-spaces of a body.
-func (b body) halves() []space.Half {
+// Halves returns the half-spaces of a body.
+func (b body) Halves() []space.Half {
 	halves := make([]space.Half, len(b.facets))
 	for i, f := range b.facets {
 		halves[i] = f.half

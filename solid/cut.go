@@ -130,7 +130,7 @@ func common(a, b body) (body, bool) {
 	if areApart(a, b) {
 		return body{}, false
 	}
-	return a.cutAll(b.halves())
+	return a.cutAll(b.Halves())
 }
 
 // Enters reports whether the part of a body in all half-spaces has interior points.

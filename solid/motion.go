@@ -65,6 +65,19 @@ func (b body) edges() iter.Seq[edge] {
 	}
 }
 
+// Edges goes through the ends of the edges of all bodies.
+func (b Bodies) Edges() iter.Seq2[space.Vector, space.Vector] {
+	return func(yield func(from, to space.Vector) bool) {
+		for _, one := range b {
+			for e := range one.edges() {
+				if !yield(e.from, e.to) {
+					return
+				}
+			}
+		}
+	}
+}
+
 // Sweep returns what a body passes on its way along a vector.
 func Sweep(b api.Body, v api.Vec) (api.Body, api.Errno) {
 	r, errB := readBody(b)

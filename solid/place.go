@@ -18,7 +18,7 @@ func Position(s api.Solid, p api.Vec) (int, api.Errno) {
 	}
 	var parts Bodies
 	for _, b := range bodies {
-		if halves := b.halves(); contains(halves, point) {
+		if halves := b.Halves(); contains(halves, point) {
 			parts = append(parts, neighbourhood(halves, point))
 		}
 	}
@@ -83,7 +83,7 @@ func isSame(h, g space.Half) bool {
 // It is that of what all other half-spaces of b leave of the facet of a.
 func touch(a, b body, h space.Half) space.Vector {
 	opposite := h.Opposite()
-	others := slices.DeleteFunc(b.halves(), func(g space.Half) bool { return isSame(g, opposite) })
+	others := slices.DeleteFunc(b.Halves(), func(g space.Half) bool { return isSame(g, opposite) })
 	if len(others) == len(b.facets) {
 		return space.Vector{}
 	}

@@ -107,7 +107,7 @@ func (b Bodies) Write() (api.Solid, api.Errno) {
 	s := make(api.Solid, len(b))
 	for i, one := range b {
 		var e api.Errno
-		if s[i], e = writeBody(one.halves()); e != api.OK {
+		if s[i], e = writeBody(one.Halves()); e != api.OK {
 			return nil, e
 		}
 	}

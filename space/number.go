@@ -113,10 +113,18 @@ func (a Number) Write() (api.Rat, api.Errno) {
 	if len(strings.TrimPrefix(over, "-")) > api.MaxDigits || len(under) > api.MaxDigits {
 		return "", api.ErrLarge
 	}
-	if under != "1" {
-		over += "/" + under
+	return api.Rat(joined(over, under)), api.OK
+}
+
+// Text returns the text of a number of any size. Equal numbers have equal texts.
+func (a Number) Text() string { return joined(a.text()) }
+
+// joined returns the text of a number with the digits of its numerator and its denominator.
+func joined(over, under string) string {
+	if under == "1" {
+		return over
 	}
-	return api.Rat(over), api.OK
+	return over + "/" + under
 }
 
 // text returns the decimal digits of the numerator with its sign, and of the denominator.

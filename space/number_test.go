@@ -106,6 +106,23 @@ func TestParseReadsNumbers(t *testing.T) {
 	}
 }
 
+// Text is for numbers of any size: where there are few enough digits it is what Write returns.
+func TestTexts(t *testing.T) {
+	s := newSource(31)
+	for range 300 {
+		a, b := s.rat(600), s.rat(600)
+		x, _ := ReadNumber(a)
+		y, _ := ReadNumber(b)
+		want(t, "Text", x.Text(), api.OK, string(a), api.OK)
+		want(t, "Text of a product", x.Times(y).Text(), api.OK, mul(bigOf(a), bigOf(b)).RatString(), api.OK)
+		want(t, "Text of a sum", x.Plus(y).Text(), api.OK, add(bigOf(a), bigOf(b)).RatString(), api.OK)
+	}
+	large, _ := ReadNumber(api.Rat(nines(600)))
+	want(t, "Text of a large number", large.Times(large).Negated().Text(), api.OK, "-"+nines(599)+"8"+zeros(599)+"1", api.OK)
+	want(t, "Text of a small number", Integer(1).Over(large.Times(large)).Text(), api.OK, "1/"+nines(599)+"8"+zeros(599)+"1", api.OK)
+	want(t, "Text of the zero value", Number{}.Text(), api.OK, "0", api.OK)
+}
+
 func TestArithmetic(t *testing.T) {
 	s := newSource(4)
 	for i := range 3000 {
