@@ -165,7 +165,7 @@ search:
 	return 0
 }
 
-// project returns the project behind the events.
+// project returns the project behind the events. It shares memory with the book.
 func (b book) project() Project {
 	var p Project
 	isKnown := map[string]bool{}
@@ -175,7 +175,7 @@ func (b book) project() Project {
 			continue
 		}
 		if d.isVersion() {
-			p.Versions = append(p.Versions, Version{d.version, slices.Clone(d.parents), copiedTimbers(d.timbers)})
+			p.Versions = append(p.Versions, Version{d.version, d.parents, d.timbers})
 		}
 		if name := d.event.Names[0]; !isKnown[name] {
 			isKnown[name] = true
@@ -186,11 +186,6 @@ func (b book) project() Project {
 	slices.Reverse(p.Versions)
 	slices.SortFunc(p.Branches, func(x, y Branch) int { return cmp.Compare(x.Name, y.Name) })
 	return p
-}
-
-// copiedTimbers returns timbers that share no memory with others.
-func copiedTimbers(t api.Timbers) api.Timbers {
-	return api.Timbers{Members: slices.Clone(t.Members), Joints: mapped(t.Joints, copied)}
 }
 
 // replay returns the book with events, or the place of the first one with an error.

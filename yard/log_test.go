@@ -143,7 +143,7 @@ func TestLogsOfManyBytes(t *testing.T) {
 	short := filled(api.MaxLog - len(undo))
 	text, e = yard.Append(short, event("1 undo", ""))
 	want(t, "Append up to a million bytes", text, e, short+undo, api.OK)
-	text, e = yard.Append(short, event("10 undo", ""))
+	text, e = yard.Append(filled(api.MaxLog-len(undo)+1), event("1 undo", ""))
 	want(t, "Append of one more", text, e, "", api.ErrLong)
 }
 

@@ -195,9 +195,31 @@ func frames() []string {
 		"beam P 0 0 0 10 4 4\nmember Q 4 1 -6 0 0 1 1 0 0 0 1 0 8 2 2\n",
 		"beam P 0 0 0 10 4 4\nbeam Q 3 1 1 1 1 1\nhousing Q P\n",
 		"beam P 0 0 0 10 4 4\nbeam Q 0 4 0 10 4 4\npeg P Q 1/8 1 1/4 0 8\npeg P Q 5 1 1/4 0 8\n",
+		"beam P 0 0 0 10 4 4\nbeam Q 0 4 0 10 4 4\npeg P Q 5 1 1/2 0 8\n",
+		"beam a 0 0 0 1 1 1\nbeam b 1 0 0 1 1/2 1/2\nhousing a b\n",
 		"bent b\npost p 0 0 0 1 1 1\nend\nrow b n 9 2 0 0\n",
 		"bent b\nbeam p 0 0 0 1 1 1\nend\nrow b n 4 1 0 1\nhousing n1_p n2_p\n",
 		"param x 1000000000000000\n",
+	}
+}
+
+func TestDirectionsOfOrders(t *testing.T) {
+	// A block in a case with one open side comes in last, through this side.
+	walls := []string{"beam west 0 0 1 1 10 3\n", "beam east 9 0 1 1 10 3\n", "beam south 1 0 1 8 1 3\n", "beam north 1 9 1 8 1 3\n"}
+	for open := range walls {
+		text, answer, last := "beam floor 0 0 0 10 10 1\n", "floor 0", ""
+		for i, wall := range walls {
+			if i != open {
+				last = strings.Fields(wall)[1]
+				text += wall + "housing floor " + last + "\n"
+				answer += " " + last + " 0"
+			}
+		}
+		text += "beam roof 0 0 4 10 10 1\nhousing roof " + last + "\nbeam block 3 3 1 4 4 3\nhousing block floor\n"
+		talk(t, yard.New(),
+			dialogue{"draw main " + escaped("frame H\n"+text), "event 1", api.OK},
+			dialogue{"order main", answer + " roof 0 block " + strconv.Itoa(open+1), api.OK},
+		)
 	}
 }
 

@@ -13,18 +13,19 @@ import (
 
 // P10.4
 
-// posts returns timbers with a post for each name, which is the height with a letter behind it, and then with joints of
-// two names and a number with a sign between them.
+// posts returns timbers with a post for each letter with a height in front, and with joints: a housing for p+q, a
+// birdsmouth for p~q, a lap with a number for p+q=1, and a scarf with 1 and a number for p~q=1.
 func posts(text string) api.Timbers {
 	var t api.Timbers
 	for word := range strings.FieldsSeq(text) {
-		if a, b, ok := strings.Cut(word, "+"); ok {
-			b, number, _ := strings.Cut(b, "=")
-			if number == "" {
-				t.Joints = append(t.Joints, api.Joint{Kind: "housing", A: a, B: b})
-				continue
+		if at := strings.IndexAny(word, "+~"); at >= 0 {
+			b, number, isNumbered := strings.Cut(word[at+1:], "=")
+			j := api.Joint{A: word[:at], B: b, Kind: map[string]string{"+": "housing", "~": "birdsmouth"}[word[at:at+1]]}
+			if isNumbered {
+				j.Kind = map[string]string{"housing": "lap", "birdsmouth": "scarf"}[j.Kind]
+				j.Numbers = []api.Rat{"1", api.Rat(number)}
 			}
-			t.Joints = append(t.Joints, api.Joint{Kind: "lap", A: a, B: b, Numbers: []api.Rat{"1", api.Rat(number)}})
+			t.Joints = append(t.Joints, j)
 			continue
 		}
 		last := len(word) - 1
@@ -59,6 +60,8 @@ func TestDifferences(t *testing.T) {
 		{"1p 2q p+q=1", "1p 2q p+q=1 p+q=1", nil},
 		{"1p 2q p+q=1 p+q=2 p+q=1", "1p 2q p+q=2", []yard.Change{join("unjoin", lap("p", "q", "1")), join("unjoin", lap("p", "q", "1"))}},
 		{"1p 2q p+q=2", "1p 2q p+q=1 p+q=2 p+q=1", []yard.Change{join("join", lap("p", "q", "1")), join("join", lap("p", "q", "1"))}},
+		{"1p 2q p+q", "1p 2q p~q", []yard.Change{join("unjoin", api.Joint{Kind: "housing", A: "p", B: "q"}), join("join", api.Joint{Kind: "birdsmouth", A: "p", B: "q"})}},
+		{"1p 2q p~q=1", "1p 2q p+q=1", []yard.Change{join("unjoin", api.Joint{Kind: "scarf", A: "p", B: "q", Numbers: []api.Rat{"1", "1"}}), join("join", lap("p", "q", "1"))}},
 		{"1p 2q p+q=1", "2r 1p p+r=1", []yard.Change{drop("drop", "q"), drop("add", "r"), join("unjoin", lap("p", "q", "1")), join("join", lap("p", "r", "1"))}},
 	} {
 		got, e := yard.Diff(posts(row.a), posts(row.b))
@@ -117,6 +120,8 @@ func TestMerges(t *testing.T) {
 		{"1p 2q p+q", "1p 2q p+q p+q", "1p 2q", "1p 2q", ""},
 		{"1p 2q p+q", "1p 2q p+q p+q", "1p 2q p+q", "1p 2q p+q p+q", ""},
 		{"1p 2q p+q", "1p", "1p 3q p+q=2", "", "q"},
+		{"1p 2q p+q", "1p 2q p~q", "1p 2q p+q p+q=1", "1p 2q p~q p+q=1", ""},
+		{"1p 2q", "1p 2q p~q=1", "1p 2q p+q=1", "1p 2q p~q=1 p+q=1", ""},
 	} {
 		merged, conflicts, e := yard.Merge(posts(row.base), posts(row.a), posts(row.b))
 		wanted := api.OK
@@ -265,7 +270,7 @@ func (s source) posts() api.Timbers {
 	}
 	for range s.Intn(4) {
 		if len(names) > 1 {
-			words = append(words, names[0]+"+"+names[1]+s.choice("", "=1", "=2"))
+			words = append(words, names[0]+s.choice("+", "+", "~")+names[1]+s.choice("", "=1", "=2"))
 		}
 	}
 	return posts(strings.Join(words, " "))
