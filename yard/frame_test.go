@@ -103,82 +103,20 @@ func TestOrderOfValuesInAPlan(t *testing.T) {
 // power is lines with the params q, which is 10^200, and most, which is 10^600 - 11.
 const power = "param t 100000000\nparam p t*t*t*t*t\nparam q p*p*p*p*p\nparam most q*q*q-11\n"
 
-func TestErrorsOfLines(t *testing.T) {
-	bent := "bent b\npost p 0 0 0 1 1 1\nend\n"
-	two := "post p 0 0 0 1 1 1\npost q 5 0 0 1 1 1\n"
-	for _, row := range []struct {
-		lines          string
-		params, expand api.Errno
-	}{
-		{"param w 1\nparam w 2\n", api.ErrTwice, api.ErrTwice},
-		{"param w 1\nparam w 1/0\n", api.ErrTwice, api.ErrTwice},
-		{"param w 1/0\nparam w 1\n", api.ErrZero, api.ErrZero},
-		{"param w v\n", api.ErrUnknown, api.ErrUnknown},
-		{"param w w\n", api.ErrUnknown, api.ErrUnknown},
-		{"param w v\nparam v 1\n", api.ErrUnknown, api.ErrUnknown},
-		{"param b 1\nbent b\nend\n", api.OK, api.OK},
-		{"bent b\nend\nbent b\nend\n", api.OK, api.ErrTwice},
-		{"bent b\nend\nbent b\npost p v 0 0 1 1 1\nend\n", api.OK, api.ErrTwice},
-		{"bent b\npost p v 0 0 1 1 1\nend\nbent b\nend\n", api.OK, api.ErrUnknown},
-		{"bent b\npost p v 0 0 1 1 1\nend\nparam v 1\nplace b n 0 0 0\n", api.OK, api.ErrUnknown},
-		{"bent b\npost p 1/0 0 0 1 1 1\nend\n", api.OK, api.ErrZero},
-		{"place b x 0 0 0\n", api.OK, api.ErrUnknown},
-		{"place b x 1/0 0 0\n", api.OK, api.ErrUnknown},
-		{"place b x 0 0 0\n" + bent, api.OK, api.ErrUnknown},
-		{bent + "place c x 0 0 0\n", api.OK, api.ErrUnknown},
-		{bent + "place x b 0 0 0\n", api.OK, api.ErrUnknown},
-		{"row b x 0 1/0 0 0\n", api.OK, api.ErrUnknown},
-		{bent + "place b x 0 1/0 v\n", api.OK, api.ErrZero},
-		{bent + "place b x 0 v 1/0\n", api.OK, api.ErrUnknown},
-		{bent + "row b x 0 1/0 0 0\n", api.OK, api.ErrZero},
-		{bent + "row b x 0 0 0 0\n", api.OK, api.ErrRange},
-		{bent + "row b x -1 0 0 0\n", api.OK, api.ErrRange},
-		{bent + "row b x 1/2 0 0 0\n", api.OK, api.ErrRange},
-		{bent + "row b x 5/2 0 0 0\n", api.OK, api.ErrRange},
-		{bent + "row b x 65 0 0 0\n", api.OK, api.ErrRange},
-		{bent + "row b x 128/2 0 0 0\n", api.OK, api.OK},
-		{bent + power + "row b x most 0 0 0\n", api.OK, api.ErrRange},
-		{bent + "row b " + long(24) + " 65 0 0 0\n", api.OK, api.ErrRange},
-		{bent + "place b " + long(22) + " 0 0 0\n", api.OK, api.OK},
-		{bent + "place b " + long(23) + " 0 0 0\n", api.OK, api.ErrName},
-		{bent + "row b " + long(21) + " 9 2 0 0\n", api.OK, api.OK},
-		{bent + "row b " + long(21) + " 10 2 0 0\n", api.OK, api.ErrName},
-		{bent + "row b " + long(22) + " 1 2 0 0\n", api.OK, api.ErrName},
-		{"bent b\nend\nplace b " + long(24) + " 0 0 0\nrow b " + long(24) + " 64 0 0 0\n", api.OK, api.OK},
-		{"bent b\nhousing p " + long(20) + "\nend\nplace b " + long(4) + " 0 0 0\n", api.OK, api.ErrName},
-		{"bent b\nhousing " + long(20) + " p\nend\nplace b " + long(4) + " 0 0 0\n", api.OK, api.ErrName},
-		{"bent b\nhousing " + long(20) + " p\nend\nplace b " + long(3) + " 0 0 0\n", api.OK, api.ErrUnknown},
-		{power + "param x most+10\n", api.OK, api.OK},
-		{power + "param x most+11\n", api.ErrLarge, api.ErrLarge},
-		{power + "post p 1/(q*q*q) 0 0 1 1 1\n", api.OK, api.ErrLarge},
-		{"housing p q\n", api.OK, api.ErrUnknown},
-		{two + "housing p p\n", api.OK, api.ErrTwice},
-		{two + "lap p q v 0\n", api.OK, api.ErrUnknown},
-		{two + "lap p q 2 0\n", api.OK, api.ErrRange},
-		{two + "tenon p q 1 1 0 1 0 1\n", api.OK, api.ErrOrder},
-		{two + "post p 9 0 0 1 1 1\n", api.OK, api.ErrTwice},
-		{"post p 0 0 0 0 1 1\n", api.OK, api.ErrRange},
-		{"brace p 0 0 0 0 0 1 1 1\n", api.OK, api.ErrZero},
-		{"member p 0 0 0 1 0 0 0 1 0 0 1 1 1 1 1\n", api.OK, api.ErrFrame},
-		{"member p 0 0 0 1 0 0 0 0 1 0 1 0 1 1 1\n", api.OK, api.ErrFrame},
-		{"post p 0 0 0 0 1 1\nplace b x 0 0 0\n", api.OK, api.ErrUnknown},
-		{"bent b\npost p 0 0 0 0 1 1\nhousing x y\nend\n", api.OK, api.OK},
-		{"bent b\npost p 0 0 0 0 1 1\nend\nplace b x 0 0 0\n", api.OK, api.ErrRange},
-		{"bent b\nhousing x y\nend\nplace b x 0 0 0\n", api.OK, api.ErrUnknown},
-		{bent + "place b x 0 0 0\nplace b x 9 0 0\n", api.OK, api.ErrTwice},
-		{bent + "row b x 1 0 0 0\nplace b x1 9 0 0\n", api.OK, api.ErrTwice},
-		{bent + "row b x 64 2 0 0\n", api.OK, api.OK},
-		{bent + "row b x 64 2 0 0\nplace b y 0 9 0\n", api.OK, api.ErrMany},
-		{bent + "post z 0 9 0 0 0 0\nrow b x 64 2 0 0\n", api.OK, api.ErrMany},
-		{bent + "row b x 64 2 0 0\nrow b y 64 2 9 0\nplace c z 0 0 0\n", api.OK, api.ErrUnknown},
-		{bent + "row b x 64 2 0 0\nrow b " + long(21) + " 64 2 9 0\n", api.OK, api.ErrName},
-		{two + strings.Repeat("housing p q\n", 64), api.OK, api.OK},
-		{two + strings.Repeat("housing p q\n", 65), api.OK, api.ErrMany},
-		{"post z 0 0 0 0 0 0\n" + strings.Repeat("housing p q\n", 65), api.OK, api.ErrMany},
-		{"bent b\n" + two + "housing p q\nhousing p q\nend\nrow b n 32 0 2 0\nhousing n1_p n1_q\n", api.OK, api.ErrMany},
-		{"bent b\nhousing p q\nhousing p q\nend\n" + two + "row b n 33 0 2 0\n", api.OK, api.ErrMany},
-		{"bent b\nhousing p q\nend\nrow b n 64 0 0 0\nrow b m 64 0 0 0\nrow b " + long(22) + " 1 0 0 0\n", api.OK, api.ErrName},
-	} {
+// wrongLines are lines with the errors of Params and Expand for them.
+type wrongLines struct {
+	lines          string
+	params, expand api.Errno
+}
+
+// onePost and twoPosts are lines of a bent with a post, and of two posts.
+const onePost = "bent b\npost p 0 0 0 1 1 1\nend\n"
+const twoPosts = "post p 0 0 0 1 1 1\npost q 5 0 0 1 1 1\n"
+
+// wantLines compares the errors of Params and Expand for lines.
+func wantLines(t *testing.T, rows ...wrongLines) {
+	t.Helper()
+	for _, row := range rows {
 		p := plan(row.lines)
 		names, _, e := yard.Params(p)
 		wantError(t, "Params of "+row.lines, e, row.params)
@@ -191,6 +129,89 @@ func TestErrorsOfLines(t *testing.T) {
 			t.Errorf("Expand of %s: got %v beside an error", row.lines, timbers)
 		}
 	}
+}
+
+func TestErrorsOfLines(t *testing.T) {
+	wantLines(t,
+		wrongLines{"param w 1\nparam w 2\n", api.ErrTwice, api.ErrTwice},
+		wrongLines{"param w 1\nparam w 1/0\n", api.ErrTwice, api.ErrTwice},
+		wrongLines{"param w 1/0\nparam w 1\n", api.ErrZero, api.ErrZero},
+		wrongLines{"param w v\n", api.ErrUnknown, api.ErrUnknown},
+		wrongLines{"param w w\n", api.ErrUnknown, api.ErrUnknown},
+		wrongLines{"param w v\nparam v 1\n", api.ErrUnknown, api.ErrUnknown},
+		wrongLines{"param b 1\nbent b\nend\n", api.OK, api.OK},
+		wrongLines{"bent b\nend\nbent b\nend\n", api.OK, api.ErrTwice},
+		wrongLines{"bent b\nend\nbent b\npost p v 0 0 1 1 1\nend\n", api.OK, api.ErrTwice},
+		wrongLines{"bent b\npost p v 0 0 1 1 1\nend\nbent b\nend\n", api.OK, api.ErrUnknown},
+		wrongLines{"bent b\npost p v 0 0 1 1 1\nend\nparam v 1\nplace b n 0 0 0\n", api.OK, api.ErrUnknown},
+		wrongLines{"bent b\npost p 1/0 0 0 1 1 1\nend\n", api.OK, api.ErrZero},
+		wrongLines{"place b x 0 0 0\n", api.OK, api.ErrUnknown},
+		wrongLines{"place b x 1/0 0 0\n", api.OK, api.ErrUnknown},
+		wrongLines{"place b x 0 0 0\n" + onePost, api.OK, api.ErrUnknown},
+		wrongLines{onePost + "place c x 0 0 0\n", api.OK, api.ErrUnknown},
+		wrongLines{onePost + "place x b 0 0 0\n", api.OK, api.ErrUnknown},
+		wrongLines{"row b x 0 1/0 0 0\n", api.OK, api.ErrUnknown},
+		wrongLines{onePost + "place b x 0 1/0 v\n", api.OK, api.ErrZero},
+		wrongLines{onePost + "place b x 0 v 1/0\n", api.OK, api.ErrUnknown},
+		wrongLines{onePost + "row b x 0 1/0 0 0\n", api.OK, api.ErrZero},
+		wrongLines{onePost + "row b x 0 0 0 0\n", api.OK, api.ErrRange},
+		wrongLines{onePost + "row b x -1 0 0 0\n", api.OK, api.ErrRange},
+		wrongLines{onePost + "row b x 1/2 0 0 0\n", api.OK, api.ErrRange},
+		wrongLines{onePost + "row b x 5/2 0 0 0\n", api.OK, api.ErrRange},
+		wrongLines{onePost + "row b x 65 0 0 0\n", api.OK, api.ErrRange},
+		wrongLines{onePost + "row b x 128/2 0 0 0\n", api.OK, api.OK},
+		wrongLines{onePost + power + "row b x most 0 0 0\n", api.OK, api.ErrRange},
+		wrongLines{onePost + "row b " + long(24) + " 65 0 0 0\n", api.OK, api.ErrRange},
+	)
+}
+
+func TestErrorsOfNamesOfPlacedBents(t *testing.T) {
+	wantLines(t,
+		wrongLines{onePost + "place b " + long(22) + " 0 0 0\n", api.OK, api.OK},
+		wrongLines{onePost + "place b " + long(23) + " 0 0 0\n", api.OK, api.ErrName},
+		wrongLines{onePost + "row b " + long(21) + " 9 2 0 0\n", api.OK, api.OK},
+		wrongLines{onePost + "row b " + long(21) + " 10 2 0 0\n", api.OK, api.ErrName},
+		wrongLines{onePost + "row b " + long(22) + " 1 2 0 0\n", api.OK, api.ErrName},
+		wrongLines{"bent b\nend\nplace b " + long(24) + " 0 0 0\nrow b " + long(24) + " 64 0 0 0\n", api.OK, api.OK},
+		wrongLines{"bent b\nhousing p " + long(20) + "\nend\nplace b " + long(4) + " 0 0 0\n", api.OK, api.ErrName},
+		wrongLines{"bent b\nhousing " + long(20) + " p\nend\nplace b " + long(4) + " 0 0 0\n", api.OK, api.ErrName},
+		wrongLines{"bent b\nhousing " + long(20) + " p\nend\nplace b " + long(3) + " 0 0 0\n", api.OK, api.ErrUnknown},
+	)
+}
+
+func TestErrorsOfTimbersOfPlans(t *testing.T) {
+	wantLines(t,
+		wrongLines{power + "param x most+10\n", api.OK, api.OK},
+		wrongLines{power + "param x most+11\n", api.ErrLarge, api.ErrLarge},
+		wrongLines{power + "post p 1/(q*q*q) 0 0 1 1 1\n", api.OK, api.ErrLarge},
+		wrongLines{"housing p q\n", api.OK, api.ErrUnknown},
+		wrongLines{twoPosts + "housing p p\n", api.OK, api.ErrTwice},
+		wrongLines{twoPosts + "lap p q v 0\n", api.OK, api.ErrUnknown},
+		wrongLines{twoPosts + "lap p q 2 0\n", api.OK, api.ErrRange},
+		wrongLines{twoPosts + "tenon p q 1 1 0 1 0 1\n", api.OK, api.ErrOrder},
+		wrongLines{twoPosts + "post p 9 0 0 1 1 1\n", api.OK, api.ErrTwice},
+		wrongLines{"post p 0 0 0 0 1 1\n", api.OK, api.ErrRange},
+		wrongLines{"brace p 0 0 0 0 0 1 1 1\n", api.OK, api.ErrZero},
+		wrongLines{"member p 0 0 0 1 0 0 0 1 0 0 1 1 1 1 1\n", api.OK, api.ErrFrame},
+		wrongLines{"member p 0 0 0 1 0 0 0 0 1 0 1 0 1 1 1\n", api.OK, api.ErrFrame},
+		wrongLines{"post p 0 0 0 0 1 1\nplace b x 0 0 0\n", api.OK, api.ErrUnknown},
+		wrongLines{"bent b\npost p 0 0 0 0 1 1\nhousing x y\nend\n", api.OK, api.OK},
+		wrongLines{"bent b\npost p 0 0 0 0 1 1\nend\nplace b x 0 0 0\n", api.OK, api.ErrRange},
+		wrongLines{"bent b\nhousing x y\nend\nplace b x 0 0 0\n", api.OK, api.ErrUnknown},
+		wrongLines{onePost + "place b x 0 0 0\nplace b x 9 0 0\n", api.OK, api.ErrTwice},
+		wrongLines{onePost + "row b x 1 0 0 0\nplace b x1 9 0 0\n", api.OK, api.ErrTwice},
+		wrongLines{onePost + "row b x 64 2 0 0\n", api.OK, api.OK},
+		wrongLines{onePost + "row b x 64 2 0 0\nplace b y 0 9 0\n", api.OK, api.ErrMany},
+		wrongLines{onePost + "post z 0 9 0 0 0 0\nrow b x 64 2 0 0\n", api.OK, api.ErrMany},
+		wrongLines{onePost + "row b x 64 2 0 0\nrow b y 64 2 9 0\nplace c z 0 0 0\n", api.OK, api.ErrUnknown},
+		wrongLines{onePost + "row b x 64 2 0 0\nrow b " + long(21) + " 64 2 9 0\n", api.OK, api.ErrName},
+		wrongLines{twoPosts + strings.Repeat("housing p q\n", 64), api.OK, api.OK},
+		wrongLines{twoPosts + strings.Repeat("housing p q\n", 65), api.OK, api.ErrMany},
+		wrongLines{"post z 0 0 0 0 0 0\n" + strings.Repeat("housing p q\n", 65), api.OK, api.ErrMany},
+		wrongLines{"bent b\n" + twoPosts + "housing p q\nhousing p q\nend\nrow b n 32 0 2 0\nhousing n1_p n1_q\n", api.OK, api.ErrMany},
+		wrongLines{"bent b\nhousing p q\nhousing p q\nend\n" + twoPosts + "row b n 33 0 2 0\n", api.OK, api.ErrMany},
+		wrongLines{"bent b\nhousing p q\nend\nrow b n 64 0 0 0\nrow b m 64 0 0 0\nrow b " + long(22) + " 1 0 0 0\n", api.OK, api.ErrName},
+	)
 }
 
 func TestManyMembersAndJointsOfRows(t *testing.T) {
